@@ -1,0 +1,1 @@
+"""Leastimage: one least image for a book of objects and archives."""

@@ -1,0 +1,67 @@
+"""The names and arguments of the interface, and where they are defined."""
+
+import importlib
+import inspect
+import unittest
+
+FUNCTIONS = {
+    "words": {
+        "is_name": "(value)",
+        "is_register": "(value)",
+        "is_word": "(value)",
+        "is_number": "(value, least, most)",
+    },
+    "rows": {
+        "is_code_row": "(value)",
+        "is_data_row": "(value)",
+        "is_closing": "(row)",
+        "name_in": "(row)",
+        "row_text": "(row)",
+        "read_row": "(text)",
+    },
+}
+CLASSES = {
+    "pieces": {
+        "Piece": (
+            "(name, part, rows, *, alignment=1, scope='local', keep=False)",
+            {"rows": "(self)", "is_shared": "(self)", "is_strong": "(self)"},
+            ["__eq__", "__len__", "__bool__", "__repr__"],
+        ),
+    },
+}
+
+
+def module(name):
+    return importlib.import_module("leastimage." + name)
+
+
+class InterfaceTest(unittest.TestCase):
+    def test_functions(self):
+        for file, functions in FUNCTIONS.items():
+            for name, signature in functions.items():
+                with self.subTest(file=file, name=name):
+                    found = getattr(module(file), name)
+                    self.assertTrue(inspect.isfunction(found))
+                    self.assertEqual(found.__module__, "leastimage." + file)
+                    self.assertEqual(str(inspect.signature(found)), signature)
+
+    def test_classes(self):
+        for file, classes in CLASSES.items():
+            for name, (signature, methods, signs) in classes.items():
+                with self.subTest(file=file, name=name):
+                    found = getattr(module(file), name)
+                    self.assertTrue(inspect.isclass(found))
+                    self.assertEqual(found.__module__, "leastimage." + file)
+                    self.assertEqual(str(inspect.signature(found)), signature)
+                    for sign in signs:
+                        self.assertIn(sign, vars(found))
+                    for method, told in methods.items():
+                        self.assertEqual(str(inspect.signature(vars(found)[method])), told, method)
+
+    def test_errors_are_defined_in_their_file(self):
+        for _, found in inspect.getmembers(module("errors"), inspect.isclass):
+            self.assertEqual(found.__module__, "leastimage.errors")
+
+
+if __name__ == "__main__":
+    unittest.main()

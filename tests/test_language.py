@@ -1,0 +1,269 @@
+"""What of ../shared/LANGUAGE.md can be checked without running the package.
+
+The checks are a little stricter than the rules where that keeps them short
+(no generator expressions, no lambdas over several lines and the like).
+"""
+
+import ast
+import builtins
+import os
+import re
+import unittest
+
+ROOT = os.path.dirname(os.path.dirname(os.path.abspath(__file__)))
+PACKAGE = os.path.join(ROOT, "leastimage")
+
+LIBRARY = {
+    "heapq": {"heappush", "heappop", "heapify", "heapreplace", "heappushpop"},
+    "math": {"gcd", "lcm", "isqrt", "comb", "perm", "factorial"},
+    "collections": {"defaultdict"},
+}
+BUILTINS = set(
+    "len range enumerate zip min max sum abs sorted reversed int str bool list tuple dict set"
+    " isinstance ord repr any all divmod super property staticmethod classmethod map iter next"
+    " ValueError TypeError KeyError IndexError LookupError ZeroDivisionError StopIteration"
+    " NotImplemented NotImplementedError Exception".split()
+)
+METHODS = set(
+    "append clear copy count endswith extend find get index insert isalnum isalpha isdigit islower"
+    " isspace isupper items join keys ljust lower lstrip partition pop remove replace reverse rfind"
+    " rjust rpartition rsplit rstrip setdefault split splitlines startswith strip update upper values"
+    " zfill bit_length title capitalize swapcase casefold center removeprefix removesuffix rindex"
+    " isascii isdecimal add discard".split()
+)
+DOUBLE = set(
+    "__init__ __eq__ __repr__ __str__ __len__ __call__ __iter__ __bool__ __contains__ __add__"
+    " __lt__ __le__ __gt__ __ge__ __ne__ __enter__ __exit__ __getitem__ __setitem__".split()
+)
+DECORATORS = {"property", "staticmethod", "classmethod"}
+NOWHERE = set("register mro elements open input law version_info with_traceback add_note".split())
+NO_WORDS = set(
+    "type typing typing_extensions enum Enum IntEnum StrEnum Flag IntFlag Generic Protocol ABC ABCMeta"
+    " namedtuple NamedTuple TypedDict TYPE_CHECKING abstractmethod".split()
+)
+NO_NAMES = re.compile(
+    r"_wall|_pe_|_dcw_|_enum_|_cm_|_twin_re_|_lay_|_law_|_stub_|_sre|_WallAttr"
+    r"|(_cold|_tuplegetter|_outside|_record|_written_out|_member_names)[0-9_]*$"
+)
+NO_NODES = (
+    ast.Global,
+    ast.AsyncFunctionDef,
+    ast.AsyncFor,
+    ast.AsyncWith,
+    ast.Await,
+    ast.Import,
+    ast.Div,
+    ast.GeneratorExp,
+    ast.MatMult,
+)
+
+
+def files():
+    """The names of the files of the package with their texts."""
+    for name in sorted(os.listdir(PACKAGE)):
+        if name != "__pycache__":
+            with open(os.path.join(PACKAGE, name), encoding="utf-8") as held:
+                yield name, held.read()
+
+
+def trees():
+    for name, text in files():
+        yield name, ast.parse(text)
+
+
+def functions(tree):
+    return [node for node in ast.walk(tree) if isinstance(node, ast.FunctionDef)]
+
+
+def parameters(node):
+    args = node.args
+    found = args.posonlyargs + args.args + args.kwonlyargs
+    return [arg.arg for arg in found + [arg for arg in (args.vararg, args.kwarg) if arg]]
+
+
+def bound_names(tree):
+    """All names of variables, parameters, functions and classes."""
+    for node in ast.walk(tree):
+        if isinstance(node, ast.Name) and not isinstance(node.ctx, ast.Load):
+            yield node.id
+        elif isinstance(node, (ast.FunctionDef, ast.Lambda)):
+            yield from parameters(node)
+        if isinstance(node, (ast.FunctionDef, ast.ClassDef)):
+            yield node.name
+        elif isinstance(node, ast.ExceptHandler) and node.name:
+            yield node.name
+
+
+def top_names(tree):
+    """The names that a file binds at module level, imports excluded."""
+    for node in tree.body:
+        if isinstance(node, (ast.FunctionDef, ast.ClassDef)):
+            yield node.name
+        elif isinstance(node, ast.Assign):
+            yield node.targets[0].id
+
+
+def imports(tree):
+    return [node for node in ast.walk(tree) if isinstance(node, ast.ImportFrom)]
+
+
+def docstrings(tree):
+    kinds = (ast.Module, ast.FunctionDef, ast.ClassDef)
+    for node in ast.walk(tree):
+        if isinstance(node, kinds) and ast.get_docstring(node) is not None:
+            yield node.body[0].value
+
+
+class LanguageTest(unittest.TestCase):
+    def test_files(self):
+        names = [name for name, _ in files()]
+        self.assertIn("__init__.py", names)
+        for name in names:
+            self.assertRegex(name, r"^[a-z][a-z0-9_]*\.py$|^__init__\.py$")
+
+    def test_sizes(self):
+        for name, text in files():
+            lines = text.split("\n")
+            self.assertLessEqual(len(lines), 400, name)
+            self.assertLessEqual(max(len(line) for line in lines), 120, name)
+            for node in functions(ast.parse(text)):
+                self.assertLessEqual(node.end_lineno - node.lineno + 1, 40, (name, node.name))
+
+    def test_characters(self):
+        for name, text in files():
+            self.assertIsNone(re.search(r"[^ -~\n]", text), name)
+            self.assertTrue(text.endswith("\n"), name)
+
+    def test_statements(self):
+        for name, tree in trees():
+            for node in ast.walk(tree):
+                self.assertNotIsInstance(node, NO_NODES, (name, getattr(node, "lineno", 0)))
+
+    def test_module_level(self):
+        allowed = (ast.ImportFrom, ast.FunctionDef, ast.ClassDef, ast.Assign)
+        for name, tree in trees():
+            for at, node in enumerate(tree.body):
+                is_text = at == 0 and isinstance(node, ast.Expr) and isinstance(node.value, ast.Constant)
+                self.assertTrue(is_text or isinstance(node, allowed), (name, node.lineno))
+            bound = list(top_names(tree)) + [own.name for node in imports(tree) for own in node.names]
+            self.assertEqual(len(bound), len(set(bound)), name)
+
+    def test_imports(self):
+        own = {name[:-3]: tree for name, tree in trees()}
+        for name, tree in own.items():
+            for node in imports(tree):
+                self.assertIn(node, tree.body, name)
+                self.assertEqual(node.level, 0, name)
+                words = node.module.split(".")
+                named = {found.name for found in node.names}
+                if words[0] == "leastimage":
+                    self.assertEqual(len(words), 2, name)
+                    self.assertLessEqual(named, set(top_names(own[words[1]])), name)
+                else:
+                    self.assertLessEqual(named, LIBRARY.get(node.module, set()), name)
+
+    def test_imports_go_one_way(self):
+        needs = {}
+        for name, tree in trees():
+            found = [node.module.split(".") for node in imports(tree)]
+            needs[name[:-3]] = {words[1] for words in found if words[0] == "leastimage"}
+        while needs:
+            free = [name for name in needs if not needs[name]]
+            self.assertTrue(free, f"files import each other: {sorted(needs)}")
+            needs = {name: needs[name] - set(free) for name in needs if name not in free}
+
+    def test_names(self):
+        for name, tree in trees():
+            taken = {own.name for node in imports(tree) for own in node.names}
+            taken |= {node.name for node in tree.body if isinstance(node, ast.ClassDef)}
+            for node in functions(tree):
+                self.assertFalse(taken & set(parameters(node)), (name, node.name))
+            for bound in bound_names(tree):
+                self.assertNotIn(bound, NOWHERE, name)
+                self.assertNotIn(bound, dir(builtins), name)
+                self.assertIsNone(NO_NAMES.match(bound), (name, bound))
+                self.assertTrue(not bound.startswith("__") or bound in DOUBLE, (name, bound))
+
+    def test_locals_are_no_imports_and_no_classes(self):
+        for name, tree in trees():
+            taken = {own.name for node in imports(tree) for own in node.names}
+            taken |= {node.name for node in tree.body if isinstance(node, ast.ClassDef)}
+            for outer in functions(tree):
+                for node in ast.walk(outer):
+                    if isinstance(node, ast.Name) and isinstance(node.ctx, ast.Store):
+                        self.assertNotIn(node.id, taken, (name, outer.name))
+
+    def test_builtins(self):
+        for name, tree in trees():
+            bound = set(bound_names(tree)) | {own.name for node in imports(tree) for own in node.names}
+            for node in ast.walk(tree):
+                if isinstance(node, ast.Name) and isinstance(node.ctx, ast.Load) and node.id not in bound:
+                    self.assertIn(node.id, BUILTINS, (name, node.lineno))
+
+    def test_methods(self):
+        own = {node.name for _, tree in trees() for node in functions(tree)}
+        for name, tree in trees():
+            for node in ast.walk(tree):
+                if isinstance(node, ast.Call) and isinstance(node.func, ast.Attribute):
+                    self.assertIn(node.func.attr, METHODS | own | {"__init__"}, (name, node.lineno))
+                if isinstance(node, ast.Attribute):
+                    self.assertNotIn(node.attr, NOWHERE | {"args", "format"}, (name, node.lineno))
+                    self.assertIsNone(NO_NAMES.match(node.attr), (name, node.lineno))
+
+    def test_attributes_are_no_methods(self):
+        # A name that is both may not be called where an operator leads (L18).
+        own = {node.name for _, tree in trees() for node in functions(tree)}
+        for name, tree in trees():
+            for node in ast.walk(tree):
+                if isinstance(node, ast.Attribute) and isinstance(node.ctx, ast.Store):
+                    self.assertNotIn(node.attr, own, (name, node.lineno))
+
+    def test_decorators(self):
+        for name, tree in trees():
+            for node in ast.walk(tree):
+                for decorator in getattr(node, "decorator_list", []):
+                    text = ast.unparse(decorator)
+                    self.assertTrue(text in DECORATORS or text.endswith(".setter"), (name, text))
+
+    def test_class_bodies(self):
+        for name, tree in trees():
+            for node in ast.walk(tree):
+                if isinstance(node, ast.ClassDef):
+                    self.assertIn(node, tree.body, name)
+                    self.assertFalse(node.decorator_list or node.keywords, name)
+                    names = [part.name for part in node.body if isinstance(part, ast.FunctionDef)]
+                    self.assertEqual(len(names), len(set(names)), (name, node.name))
+
+    def test_strings_and_numbers(self):
+        for name, tree in trees():
+            for node in ast.walk(tree):
+                if isinstance(node, ast.Constant):
+                    self.assertNotIsInstance(node.value, (float, complex), name)
+                    if isinstance(node.value, str):
+                        self.assertNotIn("%", node.value, (name, node.lineno))
+                        self.assertFalse(node.value.endswith(("._", ".__")), (name, node.lineno))
+
+    def test_words_that_do_not_occur(self):
+        for name, text in files():
+            tree = ast.parse(text)
+            docs = list(docstrings(tree))
+            for node in ast.walk(tree):
+                found = [getattr(node, part, None) for part in ("id", "attr", "arg", "name", "module")]
+                if isinstance(node, ast.Constant) and node not in docs:
+                    found.append(node.value)
+                for value in found:
+                    if isinstance(value, str):
+                        words = set(re.findall(r"\w+", value))
+                        self.assertFalse(words & NO_WORDS, (name, value))
+            self.assertNotRegex(text, r"dataclass|overload|contextmanager|_wall\b|_WallAttr", name)
+
+    def test_raised_on_the_spot(self):
+        for name, tree in trees():
+            for node in ast.walk(tree):
+                if isinstance(node, ast.Raise) and node.exc is not None:
+                    self.assertIsInstance(node.exc, ast.Call, (name, node.lineno))
+                    self.assertIsInstance(node.exc.func, ast.Name, (name, node.lineno))
+
+
+if __name__ == "__main__":
+    unittest.main()
