@@ -19,6 +19,35 @@ FUNCTIONS = {
         "row_text": "(row)",
         "read_row": "(text)",
     },
+    "objects": {
+        "wide_object": "(name, pieces, outside)",
+    },
+    "texts": {
+        "unit_text": "(unit)",
+        "units_text": "(units)",
+        "read_units": "(text)",
+        "read_unit": "(text)",
+    },
+    "halves": {
+        "high_half": "(address)",
+        "low_half": "(address)",
+        "whole": "(high, low)",
+        "signed": "(part)",
+        "unsigned": "(value)",
+        "wrapped": "(value)",
+    },
+    "cells": {
+        "cell_of": "(word, r=0, s=0, part=0)",
+        "parted": "(cell)",
+        "with_part": "(cell, part)",
+    },
+    "forms": {
+        "row_size": "(row, long=False)",
+        "row_cells": "(row, at, target, long=False)",
+        "row_fields": "(row, long=False)",
+        "stub_cells": "(slot)",
+        "placed": "(cell, field, address)",
+    },
 }
 CLASSES = {
     "pieces": {
@@ -26,6 +55,18 @@ CLASSES = {
             "(name, part, rows, *, alignment=1, scope='local', keep=False)",
             {"rows": "(self)", "is_shared": "(self)", "is_strong": "(self)"},
             ["__eq__", "__len__", "__bool__", "__repr__"],
+        ),
+    },
+    "objects": {
+        "Object": (
+            "(name, *pieces, outside=())",
+            {"pieces": "(self)", "outside": "(self)", "piece": "(self, name)", "with_piece": "(self, piece)"},
+            ["__contains__", "__eq__", "__len__", "__bool__", "__repr__"],
+        ),
+        "Archive": (
+            "(name, *members)",
+            {"members": "(self)", "member": "(self, name)"},
+            ["__contains__", "__eq__", "__len__", "__bool__", "__repr__"],
         ),
     },
 }
