@@ -88,9 +88,10 @@ def _half_cells(r, address):
 
 def _only_cell(row):
     """The cell of a row that has one form of one cell."""
-    numbers = [_number(item) for item in row[1:3]]
+    r = _number(row[1]) if len(row) > 1 else 0
+    s = _number(row[2]) if len(row) > 2 else 0
     part = row[3] if len(row) > 3 else 0
-    return cell_of(row[0], *numbers, part=part)
+    return cell_of(row[0], r, s, part)
 
 
 def _long_cells(row, target):
@@ -103,5 +104,5 @@ def _long_cells(row, target):
     leap = halves + [cell_of("jumpby", HIDDEN)]
     if word == "jump":
         return leap
-    # The jump that is not taken goes around the long one.
+    # If the register is not 0, the short jump leads around the long one.
     return [cell_of("ifzero", _first_number(row), part=2), cell_of("jump", part=4)] + leap

@@ -143,7 +143,17 @@ class ClosingAndNamesTest(unittest.TestCase):
         for row, _, name in CODE + DATA + BOTH:
             self.assertEqual(name_in(row), name, row)
         self.assertEqual(name_in(("jump", "jump")), "jump")
+        self.assertEqual(name_in(("name", "r0", "name")), "name")
         self.assertEqual(name_in(("ifzero", "r0", "r")), "r")
+
+
+    def test_values_that_are_no_rows(self):
+        values = all_odd_values() + [5, "halt", "jump a"]
+        for row, _, _ in CODE + DATA + BOTH:
+            values.extend([list(row), (row,), *[bent for bent in bent_rows(row) if not is_row(bent)]])
+        for value in values:
+            self.assertIs(is_closing(value), False, value)
+            self.assertIsNone(name_in(value), value)
 
 
 class RowTextTest(unittest.TestCase):
