@@ -82,7 +82,7 @@ class Archive:
                 raise InvalidMember(at)
         if len(members) > MOST_MEMBERS:
             raise TooMany(MOST_MEMBERS)
-        _check_names(members)
+        check_names(members)
         self.name = name
         self._members = list(members)
 
@@ -134,7 +134,7 @@ def _check_object(name, pieces, outside, is_wide):
             raise InvalidPiece(at)
     if len(pieces) > MOST_PIECES and not is_wide:
         raise TooMany(MOST_PIECES)
-    _check_names(pieces)
+    check_names(pieces)
     if not isinstance(outside, (list, tuple)):
         raise InvalidOutside(-1)
     if len(outside) > MOST_OUTSIDE and not is_wide:
@@ -142,7 +142,7 @@ def _check_object(name, pieces, outside, is_wide):
     _check_outside(outside, _names(pieces))
 
 
-def _check_names(parts):
+def check_names(parts):
     """Refuses pieces or members of which one has the name of an earlier one."""
     ahead = {}
     for part in parts:

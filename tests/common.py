@@ -1,5 +1,6 @@
 """Values and checks that several test files need."""
 
+from leastimage.books import Book
 from leastimage.pieces import Piece
 
 HALT = [("halt",)]
@@ -55,3 +56,9 @@ def raised(case, error, call, *values, **named):
     case.assertIs(caught.exception.__class__, error)
     case.assertEqual(caught.exception.code, error.__name__)
     return caught.exception
+
+
+def book_of(*parts):
+    """The book of a text whose lines are told with semicolons between."""
+    lines = [line.strip() for part in parts for line in part.split(";")]
+    return Book.read("".join([line + "\n" for line in lines if line != ""]))

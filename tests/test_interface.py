@@ -48,6 +48,31 @@ FUNCTIONS = {
         "stub_cells": "(slot)",
         "placed": "(cell, field, address)",
     },
+    "books": {
+        "wide_book": "(units)",
+    },
+    "needs": {
+        "is_need": "(book, value)",
+        "check_needs": "(book, needs)",
+        "check_roots": "(roots)",
+        "check_reach": "(reach)",
+        "live_pieces": "(book, needs)",
+        "stub_names": "(needs)",
+        "is_long": "(needs, place)",
+    },
+    "stretches": {
+        "points": "(book, needs)",
+        "laid": "(book, needs, lower, higher, start)",
+        "stretch": "(book, needs, place, start)",
+        "greatest_stretch": "(book, needs, place)",
+    },
+    "closure": {
+        "needs_of": "(book, roots, *, reach=40)",
+    },
+    "chains": {
+        "is_step": "(book, roots, value, *, reach=40)",
+        "is_chain": "(book, roots, value, *, reach=40)",
+    },
 }
 CLASSES = {
     "pieces": {
@@ -69,7 +94,50 @@ CLASSES = {
             ["__contains__", "__eq__", "__len__", "__bool__", "__repr__"],
         ),
     },
+    "books": {
+        "Book": (
+            "(*units)",
+            {
+                "units": "(self)",
+                "unit": "(self, name)",
+                "with_unit": "(self, unit, at=None)",
+                "without": "(self, name)",
+                "ranked": "(self)",
+                "piece": "(self, key)",
+                "owner": "(self, key)",
+                "drawable": "(self)",
+                "answer": "(self, name)",
+                "references": "(self, key)",
+                "target": "(self, place)",
+                "behind": "(self, place)",
+                "known": "(self)",
+                "text": "(self)",
+            },
+            ["__add__", "__iter__", "__contains__", "__eq__", "__len__", "__bool__", "__str__", "__repr__", "read"],
+        ),
+    },
+    "closure": {
+        "Closure": (
+            "(book, roots, *, reach=40)",
+            {
+                "roots": "(self)",
+                "ready": "(self)",
+                "add": "(self, need)",
+                "finish": "(self)",
+                "needs": "(self)",
+                "reason": "(self, need)",
+                "chain": "(self, need)",
+                "walk": "(self)",
+                "widened": "(self, book)",
+                "twin": "(self)",
+            },
+            ["finished", "__contains__", "__len__", "__bool__", "__repr__"],
+        ),
+    },
 }
+PROPERTIES = {"closure": {"Closure": ["finished"]}}
+STATIC = {"books": {"Book": {"read": "(text)"}}}
+GENERATORS = {"closure": {"Closure": ["walk"]}}
 
 
 def module(name):
@@ -98,6 +166,26 @@ class InterfaceTest(unittest.TestCase):
                         self.assertIn(sign, vars(found))
                     for method, told in methods.items():
                         self.assertEqual(str(inspect.signature(vars(found)[method])), told, method)
+
+    def test_properties(self):
+        for file, classes in PROPERTIES.items():
+            for name, names in classes.items():
+                for told in names:
+                    self.assertIsInstance(vars(getattr(module(file), name))[told], property)
+
+    def test_static_methods(self):
+        for file, classes in STATIC.items():
+            for name, names in classes.items():
+                for told, signature in names.items():
+                    found = vars(getattr(module(file), name))[told]
+                    self.assertIsInstance(found, staticmethod)
+                    self.assertEqual(str(inspect.signature(found.__func__)), signature)
+
+    def test_generators(self):
+        for file, classes in GENERATORS.items():
+            for name, names in classes.items():
+                for told in names:
+                    self.assertTrue(inspect.isgeneratorfunction(vars(getattr(module(file), name))[told]))
 
     def test_errors_are_defined_in_their_file(self):
         for _, found in inspect.getmembers(module("errors"), inspect.isclass):

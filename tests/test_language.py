@@ -218,6 +218,24 @@ class LanguageTest(unittest.TestCase):
                 if isinstance(node, ast.Attribute) and isinstance(node.ctx, ast.Store):
                     self.assertNotIn(node.attr, own, (name, node.lineno))
 
+    def test_names_of_generators_are_their_own(self):
+        kinds = {}
+        for _, tree in trees():
+            for node in functions(tree):
+                is_generator = any(isinstance(part, (ast.Yield, ast.YieldFrom)) for part in ast.walk(node))
+                kinds.setdefault(node.name, []).append(is_generator)
+        for name, told in kinds.items():
+            self.assertTrue(not any(told) or len(told) == 1, name)
+
+    def test_lengths_and_texts_of_objects(self):
+        allowed = {"__len__": r"len\(|\d", "__str__": r"f?['\"]|str\(|repr\(", "__repr__": r"f?['\"]|str\(|repr\("}
+        for name, tree in trees():
+            for node in functions(tree):
+                if node.name in allowed:
+                    for part in ast.walk(node):
+                        if isinstance(part, ast.Return):
+                            self.assertRegex(ast.unparse(part.value), "^(" + allowed[node.name] + ")", name)
+
     def test_decorators(self):
         for name, tree in trees():
             for node in ast.walk(tree):
