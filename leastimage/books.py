@@ -1,6 +1,6 @@
 """Books, which list objects and archives."""
 
-from leastimage.contents import Contents, is_strings, objects_in, owners_of
+from leastimage.contents import Contents, is_place, is_strings, owners_of
 from leastimage.errors import (
     Double,
     InvalidNumber,
@@ -12,7 +12,7 @@ from leastimage.errors import (
 )
 from leastimage.objects import Archive, Object, check_names
 from leastimage.texts import MOST_BOOK_PIECES, MOST_UNITS, read_units, units_text
-from leastimage.words import is_number, is_word
+from leastimage.words import is_number
 
 
 class Book:
@@ -94,10 +94,7 @@ class Book:
 
     def refers(self, value):
         """Whether any value is the place of a reference."""
-        # The row is looked at on its own: True is no row, but it is equal to 1.
-        if not isinstance(value, tuple) or not is_strings(value[:-1], 3):
-            return False
-        return is_word(value[3]) and value in self._contents.targets
+        return is_place(value) and value in self._contents.targets
 
     def row(self, place):
         """The row at the place of a reference."""

@@ -2,6 +2,7 @@
 
 from leastimage.objects import Object
 from leastimage.rows import name_in
+from leastimage.words import is_word
 
 
 class Contents:
@@ -23,6 +24,14 @@ def is_strings(value, many):
     if not isinstance(value, tuple) or len(value) != many:
         return False
     return all([isinstance(item, str) for item in value])
+
+
+def is_place(value):
+    """Whether any value is a tuple of three strings and a number from 0 on."""
+    # The number is looked at on its own: True is none, but it is equal to 1.
+    if not isinstance(value, tuple) or not is_strings(value[:-1], 3):
+        return False
+    return is_word(value[3])
 
 
 def objects_in(unit):
@@ -59,8 +68,9 @@ def targets_of(owners, keyed, answers):
         for at, row in enumerate(piece.rows()):
             name = name_in(row)
             if name is not None:
+                place = (*key, at)
                 own = (key[0], key[1], name)
-                targets[(*key, at)] = _target(own, owners[key], keyed, answers)
+                targets[place] = _target(own, owners[key], keyed, answers)
     return targets
 
 

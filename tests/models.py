@@ -247,3 +247,68 @@ def random_roots(random, book):
     """Some roots, of which most books have an answer."""
     names = [name for name in book.known() if answer(book, name) is not None]
     return random.sample(names, random.randint(1, min(3, len(names)))) if names else ["zzz"]
+
+
+def is_larger(big, book):
+    """Whether big is larger than book, read as point [19] tells it."""
+    rest = big.units()
+    for unit in book.units():
+        while rest and not rest[0] == unit:
+            rest.pop(0)
+        if not rest:
+            return False
+        rest.pop(0)
+    for name in known(book):
+        told = answer(book, name)
+        if told is not None and answer(big, name)[0] != told[0]:
+            return False
+    return True
+
+
+def random_larger(random, book, names):
+    """A book with some units more, which is larger in most cases."""
+    units = book.units()
+    strong = [piece.name for unit in units if isinstance(unit, Object) for piece in unit.pieces() if piece.is_strong()]
+    titles = [title for title in "klmnop" if title not in book]
+    for title in random.sample(titles, random.randint(0, 3)):
+        if random.random() < 0.4:
+            members = random.sample(names, random.randint(0, min(2, len(names))))
+            unit = Archive(title, *[random_object(random, member, names, []) for member in members])
+        else:
+            unit = random_object(random, title, names, strong)
+            strong += [piece.name for piece in unit.pieces() if piece.is_strong()]
+        units.insert(random.randint(0, len(units)), unit)
+    return wide_book(units)
+
+
+def offsets(book, needs, page):
+    """The dicts of the offsets of stubs, slots, pieces and rows, with the three lengths."""
+    stubs, slots, pieces, rows = {}, {}, {}, {}
+    at = 0
+    for point, alignment, cells in code(book, needs):
+        while at % alignment != 0:
+            at += 1
+        if point[0] == "stub" and len(point) == 2:
+            stubs[point[1]] = at
+        else:
+            rows[point] = at
+            pieces.setdefault(point[:3], at)
+        at += cells
+    code_length = at
+    while at % page != 0:
+        at += 1
+    data_offset = at
+    for name in stubs:
+        slots[name] = at
+        at += 1
+    end = at
+    for key, _, piece in all_pieces(book):
+        if piece.part == "data" and ("live", *key) in needs:
+            while at % piece.alignment != 0:
+                at += 1
+            pieces[key] = at
+            for index, row in enumerate(piece.rows()):
+                rows[(*key, index)] = at
+                at += size(row, False)
+                end = at
+    return stubs, slots, pieces, rows, (code_length, data_offset, end)

@@ -73,6 +73,24 @@ FUNCTIONS = {
         "is_step": "(book, roots, value, *, reach=40)",
         "is_chain": "(book, roots, value, *, reach=40)",
     },
+    "judging": {
+        "missing_step": "(book, roots, needs, *, reach=40)",
+        "is_closed": "(book, roots, needs, *, reach=40)",
+        "judge": "(book, roots, needs, *, reach=40)",
+    },
+    "larger": {
+        "is_larger": "(big, book)",
+        "general_book": "(book, *, reach=40)",
+        "outlook": "(book, roots, need, *, reach=40)",
+        "witness": "(book, roots, need, *, reach=40)",
+    },
+    "images": {
+        "link": "(book, roots, *, reach=40, page=16)",
+        "image_of": "(book, roots, needs, *, reach=40, page=16)",
+    },
+    "listing": {
+        "listing": "(image, base)",
+    },
 }
 CLASSES = {
     "pieces": {
@@ -134,8 +152,42 @@ CLASSES = {
             ["finished", "__contains__", "__len__", "__bool__", "__repr__"],
         ),
     },
+    "layout": {
+        "Layout": (
+            "(book, needs, *, page=16)",
+            {
+                "piece_offset": "(self, key)",
+                "row_offset": "(self, place)",
+                "stub_offset": "(self, name)",
+                "slot_offset": "(self, name)",
+                "place_at": "(self, offset)",
+                "stub_at": "(self, offset)",
+            },
+            ["code_length", "data_offset", "size"],
+        ),
+    },
+    "images": {
+        "Image": (
+            "(book, roots, needs, reach, page)",
+            {
+                "roots": "(self)",
+                "needs": "(self)",
+                "cells": "(self, base)",
+                "records": "(self)",
+                "exports": "(self)",
+                "stubs": "(self)",
+                "turnable": "(self)",
+                "is_least": "(self)",
+            },
+            ["size", "__eq__", "__len__", "__bool__", "__repr__"],
+        ),
+    },
 }
-PROPERTIES = {"closure": {"Closure": ["finished"]}}
+PROPERTIES = {
+    "closure": {"Closure": ["finished"]},
+    "layout": {"Layout": ["code_length", "data_offset", "size"]},
+    "images": {"Image": ["size"]},
+}
 STATIC = {"books": {"Book": {"read": "(text)"}}}
 GENERATORS = {"closure": {"Closure": ["walk"]}}
 
@@ -180,6 +232,9 @@ class InterfaceTest(unittest.TestCase):
                     found = vars(getattr(module(file), name))[told]
                     self.assertIsInstance(found, staticmethod)
                     self.assertEqual(str(inspect.signature(found.__func__)), signature)
+
+    def test_generator_functions(self):
+        self.assertTrue(inspect.isgeneratorfunction(module("listing").listing))
 
     def test_generators(self):
         for file, classes in GENERATORS.items():

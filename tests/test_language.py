@@ -275,6 +275,21 @@ class LanguageTest(unittest.TestCase):
                         self.assertFalse(words & NO_WORDS, (name, value))
             self.assertNotRegex(text, r"dataclass|overload|contextmanager|_wall\b|_WallAttr", name)
 
+    def test_no_star_in_an_index(self):
+        for name, tree in trees():
+            for node in ast.walk(tree):
+                if isinstance(node, ast.Subscript) and isinstance(node.slice, ast.Tuple):
+                    for item in node.slice.elts:
+                        self.assertNotIsInstance(item, ast.Starred, (name, node.lineno))
+
+    def test_stars_in_calls_stand_before_plain_names(self):
+        for name, tree in trees():
+            for node in ast.walk(tree):
+                if isinstance(node, ast.Call):
+                    for item in node.args:
+                        if isinstance(item, ast.Starred):
+                            self.assertIsInstance(item.value, (ast.Name, ast.Attribute), (name, node.lineno))
+
     def test_raised_on_the_spot(self):
         for name, tree in trees():
             for node in ast.walk(tree):
