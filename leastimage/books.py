@@ -108,6 +108,10 @@ class Book:
             raise UnknownPlace(place)
         return self._contents.targets[place]
 
+    def target_from(self, key, name):
+        """The target that a reference with a name has in the object of a piece."""
+        return self._contents.target_from(key, name)
+
     def behind(self, place):
         """The key of the piece behind the reference at a place, None without one."""
         target = self.target(place)

@@ -18,6 +18,11 @@ class Contents:
         self.targets = targets_of(self.owners, self.keyed, self.answers)
         self.known_names = known_names_of(units, self.keyed, self.targets)
 
+    def target_from(self, key, name):
+        """The target of a name in the object of the piece with a key."""
+        own = (key[0], key[1], name)
+        return _target(own, self.owners[key], self.keyed, self.answers)
+
 
 def is_strings(value, many):
     """Whether any value is a tuple of so many strings."""

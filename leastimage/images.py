@@ -107,9 +107,7 @@ def link(book, roots, *, reach=40, page=16):
     check_roots(roots)
     check_reach(reach)
     check_page(page)
-    needs = needs_of(book, roots, reach=reach)
-    _check_links(book, roots, needs)
-    return Image(book, roots, needs, reach, page)
+    return linked(book, roots, needs_of(book, roots, reach=reach), reach, page)
 
 
 def image_of(book, roots, needs, *, reach=40, page=16):
@@ -120,6 +118,11 @@ def image_of(book, roots, needs, *, reach=40, page=16):
     step = missing_step(book, roots, needs, reach=reach)
     if step is not None:
         raise NotClosed(step[0])
+    return linked(book, roots, needs, reach, page)
+
+
+def linked(book, roots, needs, reach, page):
+    """The image with a set of needs that is known to be closed."""
     _check_links(book, roots, needs)
     return Image(book, roots, needs, reach, page)
 

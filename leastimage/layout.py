@@ -106,7 +106,12 @@ class Layout:
         return self._code.spot_at.get(offset, self._data.spot_at.get(offset))
 
 
+def is_page(value):
+    """Whether any value is one of the three pages."""
+    return is_number(value, 16, 64) and value in PAGES
+
+
 def check_page(page):
-    """Refuses what is none of the three pages."""
-    if not is_number(page, 16, 64) or page not in PAGES:
+    """Refuses what is no page."""
+    if not is_page(page):
         raise InvalidPage(page)

@@ -39,17 +39,27 @@ def check_needs(book, needs):
             raise InvalidNeed(at)
 
 
+def is_roots(value):
+    """Whether any value is a list of 1 to 4 different names."""
+    if not isinstance(value, (list, tuple)) or not 1 <= len(value) <= MOST_ROOTS:
+        return False
+    return all([is_name(root) for root in value]) and len(set(value)) == len(value)
+
+
+def is_reach(value):
+    """Whether any value is a number from 4 to 100."""
+    return is_number(value, LEAST_REACH, MOST_REACH)
+
+
 def check_roots(roots):
-    """Refuses what is no list of 1 to 4 different names."""
-    if not isinstance(roots, (list, tuple)) or not 1 <= len(roots) <= MOST_ROOTS:
-        raise InvalidRoots()
-    if not all([is_name(root) for root in roots]) or len(set(roots)) < len(roots):
+    """Refuses what gives no roots."""
+    if not is_roots(roots):
         raise InvalidRoots()
 
 
 def check_reach(reach):
-    """Refuses what is no number from 4 to 100."""
-    if not is_number(reach, LEAST_REACH, MOST_REACH):
+    """Refuses what is no reach."""
+    if not is_reach(reach):
         raise InvalidReach(reach)
 
 

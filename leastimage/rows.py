@@ -1,6 +1,6 @@
 """Rows of code and of data, and their texts."""
 
-from leastimage.words import is_name, is_number, is_register
+from leastimage.words import is_name, is_number, is_register, read_number
 
 # What stands behind the word of a row: R is a register, N a name, n a word,
 # d a distance, k a number of cells.
@@ -24,7 +24,6 @@ DATA_ROWS = {"word": ("n",), "address": ("N",), "room": ("k",)}
 BOUNDS = {"n": (0, 65535), "d": (0, 15), "k": (1, 120)}
 CLOSING = ("jump", "halt", "back")
 NAMING = ("name", "jump", "ifzero", "call", "address")
-MOST_DIGITS = 5
 
 
 def is_code_row(value):
@@ -110,15 +109,5 @@ def _fits(item, kind):
 def _read_item(text, kind):
     """The item with a text; what it gives may be no item of this kind."""
     if kind in BOUNDS:
-        return _read_number(text)
+        return read_number(text)
     return text
-
-
-def _read_number(text):
-    """The number that is written so, None if none that a row can have is."""
-    # The length comes first: Python refuses to read very long numbers.
-    if len(text) > MOST_DIGITS or not text.isascii() or not text.isdigit():
-        return None
-    if text.startswith("0") and text != "0":
-        return None
-    return int(text)

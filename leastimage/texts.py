@@ -88,17 +88,30 @@ def read_units(text):
     reader = Reader(text, MOST_BOOK_PIECES)
     units = []
     while not reader.is_over():
-        units.append(_read_next(reader, units))
+        units.append(read_next(reader, units))
     return units
 
 
 def read_unit(text):
     """The unit with a text, which may have more pieces than a book."""
     reader = Reader(text, MOST_MEMBERS * MOST_PIECES)
-    unit = _read_next(reader, [])
+    unit = read_next(reader, [])
     if not reader.is_over():
         reader.refuse("form")
     return unit
+
+
+def read_next(reader, ahead):
+    """The unit that begins at the present line, behind the units ahead."""
+    word, name = _read_title(reader, ("object", "archive"), ahead, MOST_UNITS)
+    if word == "object":
+        return _read_object(reader, name, _strong_names(ahead))
+    members = []
+    while reader.present() != "end":
+        _, member = _read_title(reader, ("object",), members, MOST_MEMBERS)
+        members.append(_read_object(reader, member, []))
+    reader.advance()
+    return Archive(name, *members)
 
 
 def _joined(lines):
@@ -119,19 +132,6 @@ def _head_line(piece):
     if piece.keep:
         return line + " keep"
     return line
-
-
-def _read_next(reader, ahead):
-    """The unit that begins at the present line, behind the units ahead."""
-    word, name = _read_title(reader, ("object", "archive"), ahead, MOST_UNITS)
-    if word == "object":
-        return _read_object(reader, name, _strong_names(ahead))
-    members = []
-    while reader.present() != "end":
-        _, member = _read_title(reader, ("object",), members, MOST_MEMBERS)
-        members.append(_read_object(reader, member, []))
-    reader.advance()
-    return Archive(name, *members)
 
 
 def _read_title(reader, words, ahead, most):

@@ -2,6 +2,7 @@
 
 MOST_LETTERS = 6
 MOST_WORD = 65535
+MOST_DIGITS = 5
 REGISTERS = ("r0", "r1", "r2")
 
 
@@ -28,3 +29,18 @@ def is_number(value, least, most):
     if isinstance(value, bool) or not isinstance(value, int):
         return False
     return least <= value <= most
+
+
+def is_index(value, many):
+    """Whether any value is an index of one of so many things."""
+    return is_number(value, 0, many - 1)
+
+
+def read_number(text):
+    """The number that is written so, None if none of at most five digits is."""
+    # The length comes first: Python refuses to read very long numbers.
+    if len(text) > MOST_DIGITS or not text.isascii() or not text.isdigit():
+        return None
+    if text.startswith("0") and text != "0":
+        return None
+    return int(text)

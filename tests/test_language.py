@@ -75,6 +75,18 @@ def functions(tree):
     return [node for node in ast.walk(tree) if isinstance(node, ast.FunctionDef)]
 
 
+def classes(tree):
+    return [node for node in ast.walk(tree) if isinstance(node, ast.ClassDef)]
+
+
+def methods(tree):
+    return [part for node in classes(tree) for part in node.body if isinstance(part, ast.FunctionDef)]
+
+
+def is_property(node):
+    return "property" in [ast.unparse(found) for found in getattr(node, "decorator_list", [])]
+
+
 def parameters(node):
     args = node.args
     found = args.posonlyargs + args.args + args.kwonlyargs
@@ -212,11 +224,34 @@ class LanguageTest(unittest.TestCase):
 
     def test_attributes_are_no_methods(self):
         # A name that is both may not be called where an operator leads (L18).
-        own = {node.name for _, tree in trees() for node in functions(tree)}
+        own = {node.name for _, tree in trees() for node in methods(tree) if not is_property(node)}
         for name, tree in trees():
             for node in ast.walk(tree):
                 if isinstance(node, ast.Attribute) and isinstance(node.ctx, ast.Store):
-                    self.assertNotIn(node.attr, own, (name, node.lineno))
+                    self.assertFalse(node.attr in own, (name, node.lineno, node.attr))
+
+    def test_attributes_with_names_of_properties(self):
+        # Other classes may have them, where it is plain that no property is assigned (L5).
+        own = {node.name for _, tree in trees() for node in methods(tree) if is_property(node)}
+        for name, tree in trees():
+            plain = set()
+            for node in classes(tree):
+                properties = {method.name for method in node.body if is_property(method)}
+                begin = [method for method in node.body if getattr(method, "name", "") == "__init__"]
+                for part in [part for method in begin for part in ast.walk(method)]:
+                    if isinstance(part, ast.Attribute) and isinstance(part.value, ast.Name):
+                        if part.value.id == "self" and part.attr not in properties:
+                            plain.add(part)
+            for node in ast.walk(tree):
+                if isinstance(node, ast.Attribute) and isinstance(node.ctx, ast.Store) and node.attr in own:
+                    self.assertIn(node, plain, (name, node.lineno))
+
+    def test_no_method_is_read_off_a_class_of_the_package(self):
+        own = {node.name for _, tree in trees() for node in classes(tree)}
+        for name, tree in trees():
+            for node in ast.walk(tree):
+                if isinstance(node, ast.Attribute) and isinstance(node.value, ast.Name):
+                    self.assertNotIn(node.value.id, own, (name, node.lineno))
 
     def test_names_of_generators_are_their_own(self):
         kinds = {}
