@@ -1,6 +1,8 @@
 """Values and checks that several test files need."""
 
 from leastimage.books import Book
+from leastimage.images import link
+from leastimage.loading import Loaded
 from leastimage.pieces import Piece
 
 HALT = [("halt",)]
@@ -62,3 +64,13 @@ def book_of(*parts):
     """The book of a text whose lines are told with semicolons between."""
     lines = [line.strip() for part in parts for line in part.split(";")]
     return Book.read("".join([line + "\n" for line in lines if line != ""]))
+
+
+def image_in(*parts, roots=("main",), **more):
+    """The image of the book of a text like that of book_of."""
+    return link(book_of(*parts), list(roots), **more)
+
+
+def loaded_in(*parts, base=16, **more):
+    """The image of a text, loaded alone."""
+    return Loaded(image_in(*parts, **more), bases=[base])
