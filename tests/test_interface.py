@@ -1,8 +1,11 @@
 """The names and arguments of the interface, and where they are defined."""
 
+import ast
 import importlib
 import inspect
 import unittest
+
+from common import book_of, code
 
 FUNCTIONS = {
     "words": {
@@ -90,6 +93,22 @@ FUNCTIONS = {
     },
     "listing": {
         "listing": "(image, base)",
+    },
+    "apart": {
+        "taken_apart": "(image)",
+    },
+    "libraries": {
+        "general_library": "(names, *, page=16)",
+    },
+    "values": {
+        "is_address": "(value)",
+        "sum_of": "(one, other)",
+        "difference": "(one, other)",
+        "in_place": "(value, cells)",
+    },
+    "desktexts": {
+        "write_desk": "(desk)",
+        "read_desk": "(text)",
     },
 }
 CLASSES = {
@@ -182,11 +201,137 @@ CLASSES = {
             ["size", "__eq__", "__len__", "__bool__", "__repr__"],
         ),
     },
+    "linkers": {
+        "Linker": (
+            "(book, roots, *, reach=40, page=16)",
+            {
+                "roots": "(self)",
+                "needs": "(self)",
+                "put": "(self, unit, at=None)",
+                "take_off": "(self, name)",
+                "image": "(self)",
+                "twin": "(self)",
+            },
+            ["book", "begun", "__len__", "__bool__", "__repr__"],
+        ),
+    },
+    "loading": {
+        "Loaded": (
+            "(*images, bases)",
+            {
+                "images": "(self)",
+                "bases": "(self)",
+                "exporter": "(self, name)",
+                "where": "(self, address)",
+                "cells": "(self)",
+                "slots": "(self)",
+                "entries": "(self)",
+                "with_image": "(self, image, base)",
+            },
+            ["__len__", "__repr__"],
+        ),
+    },
+    "plain": {
+        "Plain": (
+            "(loaded, name, *, image=0, early=False)",
+            {
+                "place": "(self)",
+                "frames": "(self)",
+                "registers": "(self)",
+                "outputs": "(self)",
+                "content": "(self, key, *, image=0)",
+                "order": "(self)",
+                "bound": "(self)",
+                "step": "(self)",
+                "run": "(self, most=200)",
+                "opened": "(self, image, *, ahead=False)",
+                "rewrite": "(self, key, rows, *, image=0)",
+                "take_back": "(self, key, *, image=0)",
+                "editions": "(self, key, *, image=0)",
+                "twin": "(self)",
+            },
+            ["ended", "__repr__"],
+        ),
+    },
+    "machine": {
+        "Machine": (
+            "(loaded, name, *, image=0, early=False)",
+            {
+                "place": "(self)",
+                "frames": "(self)",
+                "registers": "(self)",
+                "outputs": "(self)",
+                "cell_at": "(self, address)",
+                "step": "(self)",
+                "run": "(self, most=1000)",
+                "opened": "(self, image, base, *, ahead=False)",
+                "add_room": "(self, many)",
+                "write": "(self, address, cells)",
+                "ends": "(self)",
+                "twin": "(self)",
+            },
+            ["ended", "__repr__"],
+        ),
+    },
+    "runs": {
+        "Run": (
+            "(loaded, name, *, image=0, early=False)",
+            {
+                "plain": "(self)",
+                "machine": "(self)",
+                "place": "(self)",
+                "frames": "(self)",
+                "registers": "(self)",
+                "outputs": "(self)",
+                "cell_place": "(self)",
+                "cell_frames": "(self)",
+                "word_of": "(self, value)",
+                "entry_of": "(self, place)",
+                "place_at": "(self, address)",
+                "step": "(self)",
+                "run": "(self, most=200)",
+                "run_to": "(self, place, most=200)",
+                "opened": "(self, image, base, *, ahead=False)",
+                "rewrite": "(self, key, rows, *, image=0)",
+                "take_back": "(self, key, *, image=0)",
+                "editions": "(self, key, *, image=0)",
+                "agrees": "(self)",
+                "twin": "(self)",
+            },
+            ["ended", "loaded", "__repr__"],
+        ),
+    },
+    "desk": {
+        "Desk": (
+            "()",
+            {
+                "do": "(self, *deeds)",
+                "undo": "(self)",
+                "redo": "(self)",
+                "history": "(self)",
+                "roots": "(self)",
+                "held_run": "(self)",
+                "image": "(self)",
+                "tried": "(self, *deeds)",
+                "text": "(self)",
+                "say": "(self, line)",
+                "__call__": "(self, line)",
+                "log": "(self)",
+                "twin": "(self)",
+            },
+            ["book", "reach", "page", "busy", "__eq__", "__len__", "__bool__", "__repr__"],
+        ),
+    },
 }
 PROPERTIES = {
     "closure": {"Closure": ["finished"]},
     "layout": {"Layout": ["code_length", "data_offset", "size"]},
     "images": {"Image": ["size"]},
+    "linkers": {"Linker": ["book", "begun"]},
+    "plain": {"Plain": ["ended"]},
+    "machine": {"Machine": ["ended"]},
+    "runs": {"Run": ["ended", "loaded"]},
+    "desk": {"Desk": ["book", "reach", "page", "busy"]},
 }
 STATIC = {"books": {"Book": {"read": "(text)"}}}
 GENERATORS = {"closure": {"Closure": ["walk"]}}
@@ -194,6 +339,17 @@ GENERATORS = {"closure": {"Closure": ["walk"]}}
 
 def module(name):
     return importlib.import_module("leastimage." + name)
+
+
+def imported(name, seen):
+    """The modules of the package that a module imports, itself or through others."""
+    with open(importlib.import_module(name).__file__, encoding="utf-8") as held:
+        tree = ast.parse(held.read())
+    for node in tree.body:
+        if isinstance(node, ast.ImportFrom) and node.module not in seen:
+            seen[node.module] = True
+            imported(node.module, seen)
+    return seen
 
 
 class InterfaceTest(unittest.TestCase):
@@ -224,6 +380,43 @@ class InterfaceTest(unittest.TestCase):
             for name, names in classes.items():
                 for told in names:
                     self.assertIsInstance(vars(getattr(module(file), name))[told], property)
+
+    def test_attributes(self):
+        """Attributes are set on each object when it is created."""
+        book = module("books").Book()
+        program = book_of("object o; code a 1 export; halt; end")
+        image = module("images").link(program, ["a"])
+        for found, names in (
+            (code("a"), ["name", "part", "alignment", "scope", "keep"]),
+            (module("objects").Object("a"), ["name"]),
+            (module("objects").wide_object("a", [], []), ["name"]),
+            (module("objects").Archive("a"), ["name"]),
+            (module("closure").Closure(book, ["a"]), ["book", "reach"]),
+            (module("layout").Layout(book, []), ["page"]),
+            (image, ["book", "layout", "reach", "page"]),
+            (module("libraries").general_library(["a"]), ["book", "layout", "reach", "page"]),
+            (module("linkers").Linker(book, ["a"]), ["reach", "page"]),
+        ):
+            for name in names:
+                self.assertIn(name, vars(found))
+
+    def test_constants(self):
+        self.assertEqual(module("forms").STUB, 4)
+        self.assertEqual([len(module("cells").CODES), isinstance(module("cells").CODES, tuple)], [16, True])
+
+    def test_desks_are_called_by_name_too(self):
+        desk = module("desk").Desk()
+        self.assertEqual([desk(line="units"), desk.say(line="units")], ["none", "none"])
+
+    def test_modules_need_only_those_above_them(self):
+        """The order of the modules of the document, each of which needs only earlier ones."""
+        order = "errors words rows pieces objects texts halves cells forms books needs stretches closure chains judging"
+        order += " larger layout images listing apart linkers loading libraries values plain machine runs desk desktexts"
+        order = order.split()
+        for at, name in enumerate(order):
+            for found in imported("leastimage." + name, {}):
+                inner = found.split(".")[1]
+                self.assertTrue(inner not in order or order.index(inner) < at, (name, inner))
 
     def test_static_methods(self):
         for file, classes in STATIC.items():
