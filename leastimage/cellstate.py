@@ -65,7 +65,6 @@ class CellState:
         other = CellState(self.loaded_set, self.binding.early, self.spot)
         other.binding = self.binding.twin()
         other.memory = {address: self.memory[address] for address in self.memory}
-        other.leaving = {address: self.leaving[address] for address in self.leaving}
         other.room_sizes = {address: self.room_sizes[address] for address in self.room_sizes}
         other.held = list(self.held)
         other.stack = list(self.stack)

@@ -4,7 +4,6 @@ from leastimage.books import wide_book
 from leastimage.errors import InvalidName, InvalidRoots
 from leastimage.fresh import fresh_names
 from leastimage.images import link
-from leastimage.layout import check_page
 from leastimage.objects import MOST_PIECES, Object
 from leastimage.pieces import Piece
 from leastimage.words import is_name
@@ -17,7 +16,6 @@ def general_library(names, *, page=16):
     if not isinstance(names, (list, tuple)) or len(names) == 0:
         raise InvalidRoots()
     _check_names(names)
-    check_page(page)
     pieces = [_printing(name, FIRST_OUTPUT + at) for at, name in enumerate(names)]
     groups = [pieces[at : at + MOST_PIECES] for at in range(0, len(pieces), MOST_PIECES)]
     titles = fresh_names(len(groups), [])

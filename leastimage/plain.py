@@ -17,7 +17,7 @@ class Plain:
         key = begin_key(loaded, name, image)
         self._begin = (loaded, name, image, early)
         self._state = PlainState(loaded.images(), early)
-        self._state.spot = self._state.first_row(image, key)
+        self._state.begin(image, key)
 
     @property
     def ended(self):
@@ -148,4 +148,4 @@ class Plain:
         """Stands at the newest first row, if the run is at a first row of the piece."""
         spot = self._state.spot
         if spot[:4] == (image, *key) and spot[5] == 0:
-            self._state.spot = self._state.first_row(image, key)
+            self._state.begin(image, key)

@@ -35,6 +35,10 @@ class PlainState:
         self._load(image)
         self.binding.take(image, ahead)
 
+    def begin(self, at, key):
+        """Stands at the first row of a code piece."""
+        self.spot = self.first_row(at, key)
+
     def first_row(self, at, key):
         """The spot of the first row of the newest edition of a code piece."""
         return (at, *key, self.versions[at, key].newest(), 0)

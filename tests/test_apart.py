@@ -163,6 +163,13 @@ class ApartTest(Checks):
         self.assertEqual(len(set(names)), 8)
         self.assertFalse(set(names[:7]) & set("abcdefgklm"))
 
+    def test_new_names_differ_from_those_that_nothing_refers_to(self):
+        pieces = [code("own", scope="weak", keep=True)] + [code(name, keep=True) for name in "abcdef"]
+        book = Book(Object("x", *pieces, code("main", scope="export")), Object("y", code("own", scope="export")))
+        apart = self.check(link(book, ["main"]))
+        self.assertEqual([piece.name for piece in apart.units()[0].pieces()][1:], [*"abcdef", "main"])
+        self.assertNotIn(apart.units()[0].pieces()[0].name, ["own", *"abcdef"])
+
     def test_an_answer_that_is_dead_has_no_namesake(self):
         # The stub of d has an answer that is data and dead; a weak piece d is kept.
         book = book_of(

@@ -95,6 +95,14 @@ class DeedsTest(unittest.TestCase):
         desk.do(("roots", ("main",)), ("reach", 100), ("page", 32))
         self.assertEqual([desk.roots(), desk.reach, desk.page], [["main"], 100, 32])
 
+    def test_each_of_them_stays_in_later_calls(self):
+        desk = desk_with(("roots", ["a", "b"]))
+        desk.do(("reach", 7))
+        desk.do(("page", 64))
+        desk.do(("put", LIB))
+        self.assertEqual([desk.roots(), desk.reach, desk.page, desk.book], [["a", "b"], 7, 64, Book(LIB)])
+        self.assertEqual(desk.twin().text(), desk.text())
+
     def test_image(self):
         desk = desk_with(("put", MAIN), ("reach", 4), ("page", 32))
         self.assertEqual(desk.image(), link(Book(MAIN), ["main"], reach=4, page=32))
@@ -428,6 +436,9 @@ class TwinTest(unittest.TestCase):
         desk.say("what")
         twin, before = desk.twin(), state(desk)
         self.assertEqual(state(twin), before)
+        twin.redo()
+        self.assertEqual(desk.history(), (2, 1))
+        twin.undo()
         twin.do(("go", 9), ("rewrite", KEY, HALT), ("off", "main"))
         twin.say("end")
         twin.undo()

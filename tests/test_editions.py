@@ -157,6 +157,18 @@ class RewritingTest(Checks):
         self.through(run)
         self.assertEqual([run.outputs(), run.place()], [[2, 0, 0], spot(MAIN, 2, 1)])
 
+    def test_taken_back_in_a_twin_first(self):
+        run = run_of(*LOOP)
+        before = [run.machine().cell_at(address) for address in range(64, 96)]
+        run.rewrite(LOW, NINE)
+        run.rewrite(LOW, [("halt",)])
+        twin = run.twin()
+        for machine in (twin, run):
+            machine.take_back(LOW)
+            machine.take_back(LOW)
+            self.assertEqual([machine.machine().cell_at(address) for address in range(64, 96)], before)
+            self.through(machine, 20)
+
     def test_taken_back_and_run_on(self):
         run = run_of(*LOOP)
         run.rewrite(LOW, [("out", "r1"), ("out", "r1"), ("back",)])

@@ -258,7 +258,8 @@ class StubsTest(unittest.TestCase):
 
     def test_opened_behind(self):
         machine = self.machine(general_library(["far"]))
-        self.assertEqual(machine.opened(image=general_library(["far"]), base=512, ahead=False), 2)
+        self.assertEqual(machine.opened(image=general_library(["far"]), base=512), 2)
+        self.assertEqual(machine.opened(general_library(["far"]), 1024, ahead=False), 3)
         machine.run(5)
         self.assertEqual(machine.place(), 64)
 
@@ -288,6 +289,25 @@ class StubsTest(unittest.TestCase):
         machine.write(20, [cell("jumpby", 3)])
         machine.step()
         self.assertEqual([machine.place(), machine.ended, machine.cell_at(self.slot)], [0, "", 0])
+
+    def test_two_stubs(self):
+        text = "object o; outside a; outside b; code main 1 export; call b; call a; call b; halt; end"
+        for early in (False, True):
+            machine = Machine(Loaded(image_in(text), general_library(["a", "b"]), bases=[16, 64]), "main", early=early)
+            machine.run()
+            self.assertEqual([machine.outputs(), machine.ended], [[60001, 60000, 60001], "halt"])
+
+    def test_a_slot_that_was_written(self):
+        machine = self.machine(general_library(["far"]))
+        machine.write(self.slot, [33])
+        machine.run(5)
+        self.assertEqual([machine.place(), machine.cell_at(self.slot), machine.registers()], [33, 33, [0, 0, 0, 33]])
+
+    def test_a_jumpby_of_another_register(self):
+        machine = self.machine(general_library(["far"]))
+        machine.write(19, [cell("jumpby", 1)])
+        machine.run(5)
+        self.assertEqual([machine.place(), machine.cell_at(self.slot), machine.ended], [0, 0, ""])
 
     def test_another_cell_in_its_place(self):
         machine = self.machine(general_library(["far"]))
@@ -330,7 +350,7 @@ class RunTest(unittest.TestCase):
     def test_returned_lists_are_new(self):
         machine = behind(2, cell("out"), cell("call"))
         for told in (machine.frames, machine.registers, machine.outputs, machine.ends):
-            before = told()
+            before = list(told())
             self.assertTrue(before)
             told().clear()
             self.assertEqual(told(), before)
@@ -338,7 +358,8 @@ class RunTest(unittest.TestCase):
     def test_twins(self):
         library = general_library(["far"])
         machine = Machine(Loaded(image_in(STUB), library, bases=[16, 64]), "main", early=False)
-        machine.run(5)
+        machine.run(8)
+        self.assertEqual(machine.outputs(), [60000])
         machine.add_room(3)
         twin, before = machine.twin(), state(machine)
         self.assertEqual(state(twin), before)
@@ -349,9 +370,23 @@ class RunTest(unittest.TestCase):
         self.assertEqual(state(machine), before)
         after = state(twin)
         machine.opened(general_library(["b"]), 1024)
-        machine.run(4)
+        machine.run(1)
         self.assertEqual(state(twin), after)
         self.assertEqual([twin.ended, machine.outputs(), machine.place()], ["halt", [60000], 21])
+
+    def test_twins_keep_the_order_and_what_is_bound(self):
+        machine = Machine(loaded_in(STUB), "main")
+        machine.opened(general_library(["far"]), 64)
+        machine.opened(general_library(["far"]), 128, ahead=True)
+        twin = machine.twin()
+        twin.run(5)
+        self.assertEqual(twin.place(), 128)
+        twin.opened(general_library(["far"]), 192, ahead=True)
+        again = twin.twin()
+        slot = 16 + image_in(STUB).layout.slot_offset("far")
+        again.write(slot, [0])
+        again.run()
+        self.assertEqual([again.cell_at(slot), again.ended, machine.opened(general_library(["a"]), 192)], [128, "done", 3])
 
 
 class RoomsTest(unittest.TestCase):

@@ -1,5 +1,6 @@
 """The plain machine: points [30] to [32], leastimage/plain.py."""
 
+import copy
 import unittest
 
 from leastimage.errors import (
@@ -105,11 +106,12 @@ class BeginningTest(unittest.TestCase):
         self.assertEqual(Plain(loaded=two, name="lib", image=1, early=True).place()[0], 1)
 
     def test_returned_lists_and_dicts_are_new(self):
-        plain = plain_of("name r0 d; call main")
-        plain.run(2)
+        plain = Plain(Loaded(image_in(program("call far; out r0; call main")), general_library(["far"]), bases=[16, 512]), "main")
+        plain.run(6)
         for told in (plain.frames, plain.registers, plain.outputs, plain.order, plain.bound):
-            before = told()
+            before = copy.copy(told())
             told().clear()
+            self.assertTrue(before)
             self.assertEqual(told(), before)
         plain.content(D).clear()
         self.assertEqual(len(plain.content(D)), 5)
@@ -299,6 +301,14 @@ class StubsTest(Checks):
         self.assertEqual(list(plain.bound().items()), list(told.items()))
         self.assertEqual(Plain(loaded, "main", early=False).bound(), {})
 
+    def test_bound_stubs_are_told_in_ascending_order(self):
+        library = image_in("object l; outside main; code far 1 open; call gone; call main; halt; code gone 1 open; back; end", roots=["far"])
+        plain = Plain(Loaded(image_in(program("call gone; call far")), library, bases=[16, 512]), "main")
+        plain.run(8)
+        told = [(0, "far"), (0, "gone"), (1, "gone"), (1, "main")]
+        self.assertEqual(list(plain.bound()), told)
+        self.assertEqual([plain.bound()[stub][0] for stub in told], [1, 1, 1, 0])
+
     def test_the_first_exporter(self):
         one, other = general_library(["far"]), general_library(["x", "far"])
         main = image_in(program("call far"))
@@ -439,6 +449,22 @@ class RunTest(unittest.TestCase):
         plain.run()
         self.assertEqual(told(twin), after)
         self.assertEqual([plain.ended, plain.outputs(), twin.outputs()], ["halt", [60000, 60000], [60000, 60000]])
+
+    def test_twins_open_libraries_alone(self):
+        plain = plain_of("call far")
+        twin = plain.twin()
+        one, other = general_library(["far"]), general_library(["a", "b", "far"])
+        self.assertEqual([twin.opened(one), twin.opened(one, ahead=True), plain.opened(other)], [1, 2, 1])
+        self.assertEqual([twin.order(), plain.order()], [[2, 0, 1], [0, 1]])
+        plain.run()
+        twin.run()
+        self.assertEqual([plain.outputs(), twin.outputs()], [[60002], [60000]])
+        self.assertEqual([plain.bound()[0, "far"][0], twin.bound()[0, "far"][0]], [1, 2])
+        self.assertEqual(raised(self, UnknownImage, plain.editions, MAIN, image=2).at, 2)
+
+    def test_a_twin_that_has_ended(self):
+        plain = plain_of("out r0")
+        plain.run()
         self.assertEqual(raised(self, Ended, plain.twin().step).code, "Ended")
 
 

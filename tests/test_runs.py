@@ -84,6 +84,12 @@ class AgreeingTest(Checks):
                 outputs = [1, 5, 60001 if ahead and not early else 60000]
                 self.assertEqual(run.outputs(), outputs)
 
+    def test_behind_all_if_nothing_else_is_said(self):
+        run = Run(loaded_at(64, *WORK, libraries=[general_library(["far"])]), "main")
+        self.assertEqual([run.opened(general_library(["none", "far"]), 8192), run.plain().order()], [2, [0, 1, 2]])
+        self.through(run)
+        self.assertEqual(run.outputs(), [1, 5, 60000])
+
     def test_a_library_that_turns_a_call(self):
         run = Run(loaded_at(64, *WORK), "main")
         run.opened(general_library(["none", "far"]), 8192, ahead=True)
@@ -163,7 +169,8 @@ class TellingTest(Checks):
         self.assertEqual(run.word_of((0, ("o", "", "low"), 0)), low)
         self.assertEqual(run.word_of(value=(0, ("o", "", "d"), 3)), 64 + self.layout.piece_offset(("o", "", "d")) + 3)
         self.assertEqual(run.word_of((0, ("o", "", "low"), 65535)), low - 1)
-        self.assertEqual(run.word_of((0, ("", "", "far"), 2)), 64 + self.layout.stub_offset("far") + 2)
+        self.assertEqual(run.word_of((0, ("", "", "far"), 2)), 64 + 2)
+        self.assertEqual(run.word_of((0, ("", "", "none"), 65535)), 64 + 4 - 1)
         key = self.loaded.images()[1].book.answer("far")
         self.assertEqual([run.word_of((1, key, 0)), run.word_of((1, key, 65536 - 1089))], [1088, 65535])
         run.opened(general_library(["a", "b"]), 16384)
@@ -232,6 +239,27 @@ class TellingTest(Checks):
         run = self.run_.twin()
         run._rows.run(6)
         self.assertIs(run.agrees(), False)
+        run = self.run_.twin()
+        run.run(6)
+        for change in (
+            lambda state: state.printed.append(0),
+            lambda state: state.stack.append(64),
+            lambda state: state.stack.pop(),
+            lambda state: state.held.insert(0, 9),
+            lambda state: state.held.reverse(),
+        ):
+            twin = run.twin()
+            self.assertIs(twin.agrees(), True)
+            change(twin._cells._state)
+            self.assertIs(twin.agrees(), False)
+        twin = run.twin()
+        twin._cells._state.held[3] = 7
+        self.assertIs(twin.agrees(), True)
+        for machine in ("_rows", "_cells"):
+            # Both stand at the row halt, which one of them has done.
+            run = Run(loaded_in("object o; code main 1 export; halt; end"), "main")
+            getattr(run, machine).step()
+            self.assertIs(run.agrees(), False)
         run = Run(loaded_in(DEEP), "main")
         run._cells.run()
         self.assertIs(run.agrees(), False)
@@ -275,6 +303,13 @@ class RunTest(Checks):
         self.assertEqual([run.run_to(place=main, most=5), run.place(), len(run.outputs())], [True, main, 4])
         self.assertEqual([run.run_to(main, most=4), run.place()], [False, (0, "o", "", "main", 0, 2)])
         self.assertIs(run.agrees(), True)
+
+    def test_run_to_default(self):
+        loaded = loaded_in("object o; code main 1 export; out r0; jump main; end")
+        run = Run(loaded, "main")
+        self.assertEqual([run.run_to((0, "o", "", "main", 0, 5)), len(run.outputs()), run.place()[5]], [False, 100, 0])
+        run.step()
+        self.assertEqual([run.run_to((0, "o", "", "main", 0, 5)), len(run.outputs()), run.place()[5]], [False, 201, 1])
 
     def test_run_to_what_never_comes(self):
         loaded = loaded_in("object o; code main 1 export; jump main; end")
@@ -334,9 +369,9 @@ class RunTest(Checks):
 
     def test_returned_lists_are_new(self):
         run = Run(loaded_at(64, *WORK), "main")
-        run.run(5)
+        run.run(6)
         for told in (run.frames, run.registers, run.outputs, run.cell_frames):
-            before = told()
+            before = list(told())
             told().append(1)
             self.assertEqual(told(), before)
 
@@ -354,6 +389,28 @@ class RunTest(Checks):
         self.through(run)
         self.assertEqual(told_of(twin), after)
         self.assertEqual([run.outputs(), twin.outputs()], [[1, 5, 60000], []])
+
+    def test_twins_with_editions_and_libraries(self):
+        run = Run(loaded_at(64, *WORK), "main")
+        run.opened(general_library(["far"]), 8192)
+        low = ("o", "", "low")
+        run.rewrite(low, [("out", "r1"), ("put", "r2", 0), ("back",)])
+        run.run_to((0, *low, 1, 1))
+        twin = run.twin()
+        entry = run.entry_of((0, *low, 1, 2))
+        self.assertEqual([twin.entry_of((0, *low, 1, 2)), twin.place_at(entry)], [entry, (0, *low, 1, 2)])
+        self.assertEqual(twin.place_at(8192), (1, *run.loaded.images()[1].book.answer("far"), 0, 0))
+        self.assertEqual(twin.rewrite(low, [("halt",)]), 2)
+        twin.take_back(low)
+        twin.take_back(low)
+        self.assertEqual([twin.editions(low), run.editions(low), twin.place(), run.cell_place()], [[0], [0, 1], run.place(), run.place()])
+        self.assertEqual(run.rewrite(low, [("halt",)]), 2)
+        run.take_back(low)
+        self.through(twin)
+        self.through(run)
+        self.assertEqual([run.ended, twin.ended], ["halt", "halt"])
+        self.assertEqual([run.outputs(), twin.outputs()], [[5, 5, 5, 60000], [5, 5, 60000]])
+        self.assertIsNone(run.entry_of((0, *low, 0, 1)))
 
 
 if __name__ == "__main__":
