@@ -325,6 +325,47 @@ class LanguageTest(unittest.TestCase):
                         if isinstance(item, ast.Starred):
                             self.assertIsInstance(item.value, (ast.Name, ast.Attribute), (name, node.lineno))
 
+    def test_is_only_with_none_true_and_false(self):
+        for name, tree in trees():
+            for node in ast.walk(tree):
+                if isinstance(node, ast.Compare):
+                    for sign, other in zip(node.ops, node.comparators):
+                        if isinstance(sign, (ast.Is, ast.IsNot)):
+                            found = isinstance(other, ast.Constant) and other.value in (None, True, False)
+                            self.assertTrue(found, (name, node.lineno))
+
+    def test_sets_stand_only_in_sorted_and_len(self):
+        for name, tree in trees():
+            allowed = []
+            for node in ast.walk(tree):
+                if isinstance(node, ast.Call) and isinstance(node.func, ast.Name) and node.func.id in ("sorted", "len"):
+                    allowed += node.args
+            for node in ast.walk(tree):
+                is_call = isinstance(node, ast.Call) and isinstance(node.func, ast.Name) and node.func.id == "set"
+                if is_call or isinstance(node, (ast.Set, ast.SetComp)):
+                    self.assertIn(node, allowed, (name, node.lineno))
+
+    def test_what_is_iterated_at_once_is_not_kept(self):
+        for name, tree in trees():
+            for node in ast.walk(tree):
+                if isinstance(node, (ast.Assign, ast.Return)) and isinstance(node.value, ast.Call):
+                    called = ast.unparse(node.value.func).split(".")[-1]
+                    self.assertNotIn(called, ("range", "zip", "enumerate", "reversed", "items", "keys", "values"), (name, node.lineno))
+
+    def test_attributes_that_are_read_are_assigned(self):
+        own, read = {}, {}
+        for name, tree in trees():
+            for node in methods(tree):
+                own[node.name] = True
+            for node in ast.walk(tree):
+                if isinstance(node, ast.Attribute) and isinstance(node.ctx, ast.Store):
+                    own[node.attr] = True
+                    self.assertIsInstance(node.value, ast.Name, (name, node.lineno))
+                elif isinstance(node, ast.Attribute):
+                    read[node.attr] = (name, node.lineno)
+        for word, where in read.items():
+            self.assertTrue(word in own or word in METHODS, (word, where))
+
     def test_raised_on_the_spot(self):
         for name, tree in trees():
             for node in ast.walk(tree):
