@@ -12,11 +12,21 @@ class Closure:
     def __init__(self, book, roots, *, reach=40):
         check_roots(roots)
         check_reach(reach)
-        self.book = book
-        self.reach = reach
+        self._book = book
+        self._reach = reach
         self._roots = list(roots)
         self._steps = {}
         self._next = given_steps(book, roots, reach, [])
+
+    @property
+    def book(self):
+        """The book."""
+        return self._book
+
+    @property
+    def reach(self):
+        """The reach."""
+        return self._reach
 
     def roots(self):
         """The list of the roots."""

@@ -17,15 +17,29 @@ class Image:
     """The cells of a closed set of needs, which can be loaded. It never changes."""
 
     def __init__(self, book, roots, needs, reach, page):
-        self.book = book
-        self.reach = reach
-        self.page = page
+        self._book = book
+        self._reach = reach
         self._roots = list(roots)
         self._needs = sorted(set(needs))
         self.layout = Layout(book, self._needs, page=page)
         held = {need: True for need in self._needs}
         self._fields = records_of(book, held, self.layout)
         self._cells = cells_of(book, held, self.layout)
+
+    @property
+    def book(self):
+        """The book."""
+        return self._book
+
+    @property
+    def reach(self):
+        """The reach."""
+        return self._reach
+
+    @property
+    def page(self):
+        """The page."""
+        return self.layout.page
 
     @property
     def size(self):

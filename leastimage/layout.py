@@ -38,7 +38,7 @@ class Layout:
     def __init__(self, book, needs, *, page=16):
         check_needs(book, needs)
         check_page(page)
-        self.page = page
+        self._page = page
         self._code = Tract(code_blocks(book, needs), 0)
         self._slots_begin = aligned(self._code.end, page)
         names = stub_names(needs)
@@ -46,6 +46,11 @@ class Layout:
         self._data = Tract(piece_blocks(book, needs, "data"), self._slots_begin + len(names))
         self._begins = {**self._code.begins, **self._data.begins}
         self._spot_begins = {**self._code.spot_begins, **self._data.spot_begins}
+
+    @property
+    def page(self):
+        """The page."""
+        return self._page
 
     @property
     def code_length(self):

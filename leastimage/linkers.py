@@ -13,8 +13,7 @@ class Linker:
         closure = Closure(book, roots, reach=reach)
         check_page(page)
         closure.finish()
-        self.reach = reach
-        self.page = page
+        self._page = page
         self._closure = closure
         self._times_begun = 1
 
@@ -22,6 +21,16 @@ class Linker:
     def book(self):
         """The present book."""
         return self._closure.book
+
+    @property
+    def reach(self):
+        """The reach."""
+        return self._closure.reach
+
+    @property
+    def page(self):
+        """The page."""
+        return self._page
 
     @property
     def begun(self):

@@ -382,23 +382,30 @@ class InterfaceTest(unittest.TestCase):
                     self.assertIsInstance(vars(getattr(module(file), name))[told], property)
 
     def test_attributes(self):
-        """Attributes are set on each object when it is created."""
+        """Attributes are read off each object from when it is created."""
         book = module("books").Book()
         program = book_of("object o; code a 1 export; halt; end")
-        image = module("images").link(program, ["a"])
-        for found, names in (
-            (code("a"), ["name", "part", "alignment", "scope", "keep"]),
-            (module("objects").Object("a"), ["name"]),
-            (module("objects").wide_object("a", [], []), ["name"]),
-            (module("objects").Archive("a"), ["name"]),
-            (module("closure").Closure(book, ["a"]), ["book", "reach"]),
-            (module("layout").Layout(book, []), ["page"]),
-            (image, ["book", "layout", "reach", "page"]),
-            (module("libraries").general_library(["a"]), ["book", "layout", "reach", "page"]),
-            (module("linkers").Linker(book, ["a"]), ["reach", "page"]),
+        image = module("images").link(program, ["a"], reach=7, page=32)
+        library = module("libraries").general_library(["a"], page=64)
+        piece = {"name": "a", "part": "code", "alignment": 1, "scope": "local", "keep": False}
+        for found, told in (
+            (code("a"), piece),
+            (module("objects").Object("a"), {"name": "a"}),
+            (module("objects").wide_object("a", [], []), {"name": "a"}),
+            (module("objects").Archive("a"), {"name": "a"}),
+            (module("closure").Closure(book, ["a"]), {"book": book, "reach": 40}),
+            (module("closure").Closure(program, ["a"], reach=7), {"book": program, "reach": 7}),
+            (module("layout").Layout(book, []), {"page": 16}),
+            (module("layout").Layout(program, [], page=64), {"page": 64}),
+            (image, {"book": program, "layout": image.layout, "reach": 7, "page": 32}),
+            (library, {"book": library.book, "layout": library.layout, "reach": 40, "page": 64}),
+            (module("linkers").Linker(book, ["a"]), {"reach": 40, "page": 16}),
+            (module("linkers").Linker(program, ["a"], reach=7, page=32), {"reach": 7, "page": 32}),
         ):
-            for name in names:
-                self.assertIn(name, vars(found))
+            for name, value in told.items():
+                self.assertEqual(getattr(found, name), value, (found, name))
+        self.assertIsInstance(image.layout, module("layout").Layout)
+        self.assertIsInstance(library.book, module("books").Book)
 
     def test_constants(self):
         self.assertEqual(module("forms").STUB, 4)

@@ -87,6 +87,10 @@ def is_property(node):
     return "property" in [ast.unparse(found) for found in getattr(node, "decorator_list", [])]
 
 
+def is_setter(node, name):
+    return name + ".setter" in [ast.unparse(found) for found in getattr(node, "decorator_list", [])]
+
+
 def parameters(node):
     args = node.args
     found = args.posonlyargs + args.args + args.kwonlyargs
@@ -230,21 +234,29 @@ class LanguageTest(unittest.TestCase):
                 if isinstance(node, ast.Attribute) and isinstance(node.ctx, ast.Store):
                     self.assertFalse(node.attr in own, (name, node.lineno, node.attr))
 
-    def test_attributes_with_names_of_properties(self):
-        # Other classes may have them, where it is plain that no property is assigned (L5).
-        own = {node.name for _, tree in trees() for node in methods(tree) if is_property(node)}
-        for name, tree in trees():
-            plain = set()
+    def test_properties_without_setters_are_not_assigned(self):
+        # The rule goes by the name (L5): whichever class the object is of.
+        bare = {}
+        for _, tree in trees():
             for node in classes(tree):
-                properties = {method.name for method in node.body if is_property(method)}
-                begin = [method for method in node.body if getattr(method, "name", "") == "__init__"]
-                for part in [part for method in begin for part in ast.walk(method)]:
-                    if isinstance(part, ast.Attribute) and isinstance(part.value, ast.Name):
-                        if part.value.id == "self" and part.attr not in properties:
-                            plain.add(part)
+                for told in [part.name for part in node.body if is_property(part)]:
+                    if not any(is_setter(part, told) for part in node.body):
+                        bare.setdefault(told, node.name)
+        for name, tree in trees():
             for node in ast.walk(tree):
-                if isinstance(node, ast.Attribute) and isinstance(node.ctx, ast.Store) and node.attr in own:
-                    self.assertIn(node, plain, (name, node.lineno))
+                if isinstance(node, ast.Attribute) and not isinstance(node.ctx, ast.Load):
+                    self.assertNotIn(node.attr, bare, (name, node.lineno, bare.get(node.attr)))
+
+    def test_properties_are_only_read(self):
+        own = {node.name for _, tree in trees() for node in methods(tree) if is_property(node)}
+        plain = {node.name for _, tree in trees() for node in methods(tree) if not is_property(node)}
+        self.assertFalse(own & (plain | METHODS))
+        for name, tree in trees():
+            for node in ast.walk(tree):
+                if isinstance(node, ast.Call) and isinstance(node.func, ast.Attribute):
+                    self.assertNotIn(node.func.attr, own, (name, node.lineno))
+                if isinstance(node, ast.Starred) and isinstance(node.value, ast.Attribute):
+                    self.assertNotIn(node.value.attr, own, (name, node.lineno))
 
     def test_no_method_is_read_off_a_class_of_the_package(self):
         own = {node.name for _, tree in trees() for node in classes(tree)}

@@ -52,6 +52,17 @@ class LinkerTest(unittest.TestCase):
         self.assertIs(bool(Linker(Book(), ["main"])), True)
         self.assertEqual(state(Linker(Book(), ("main",)))[2:], [40, 16, ["main"], [], 0, "Linker(0 units, 0 needs)"])
 
+    def test_reach_and_page_stay(self):
+        linker = Linker(Book(MAIN, WEAK), ["main"], reach=7, page=32)
+        self.assertIs(linker.put(Object("more")), True)
+        self.assertEqual([linker.reach, linker.page], [7, 32])
+        self.assertIs(linker.put(LIB), False)
+        self.assertEqual([linker.reach, linker.page], [7, 32])
+        linker.take_off("lib")
+        for found in (linker, linker.twin()):
+            self.assertEqual([found.reach, found.page], [7, 32])
+            self.assertEqual(found.image(), link(Book(MAIN, WEAK, Object("more")), ["main"], reach=7, page=32))
+
     def test_put_behind_all(self):
         linker = Linker(Book(MAIN), ["main"])
         self.assertIs(linker.put(LIB), True)
